@@ -117,11 +117,21 @@ func brief(x any) string {
 	return s
 }
 
+// fileSize is how many bytes a disk's file has, also where the disk is dead.
+func fileSize(d *disk.Disk, number int) int {
+	for _, one := range d.Image() {
+		if one.Number == number {
+			return len(one.Data)
+		}
+	}
+	return 0
+}
+
 // twin is the chapter's own words: each call as the disk's calls that it names, in their order.
 type twin struct {
-	d            *disk.Disk
-	number, size int
-	broken       bool
+	d      *disk.Disk
+	number int
+	broken bool
 }
 
 // calls does one call of the disk after the other, up to the first that has an error.
@@ -147,7 +157,7 @@ func twinOpen(d *disk.Disk, first string) (*twin, []string, api.Errno) {
 	if e != api.OK {
 		return nil, nil, e
 	}
-	p, bodies := &twin{d: d, number: x.Number, size: x.Good}, x.Bodies
+	p, bodies := &twin{d: d, number: x.Number}, x.Bodies
 	var todo []func() api.Errno
 	if data, _ := d.Read(x.Number); len(data) > x.Good {
 		todo = append(todo, func() api.Errno { return d.Cut(x.Number, x.Good) })
@@ -156,7 +166,7 @@ func twinOpen(d *disk.Disk, first string) (*twin, []string, api.Errno) {
 		todo = append(todo, func() api.Errno { return d.Remove(number) })
 	}
 	if x.Number == -1 {
-		p, bodies = &twin{d: d, number: 1, size: len(frames(first))}, []string{first}
+		p, bodies = &twin{d: d, number: 1}, []string{first}
 		todo = append(todo, func() api.Errno {
 			if len(first) > longest {
 				return api.ErrBig
@@ -183,11 +193,7 @@ func (p *twin) Append(body string) api.Errno {
 	if p.broken {
 		return api.ErrDead
 	}
-	e := p.lay(p.number, body)
-	if e == api.OK {
-		p.size += len(frames(body))
-	}
-	return e
+	return p.lay(p.number, body)
 }
 
 func (p *twin) Turn(body string) api.Errno {
@@ -200,7 +206,7 @@ func (p *twin) Turn(body string) api.Errno {
 	if e := p.lay(p.number+1, body); e != api.OK {
 		return e
 	}
-	p.number, p.size = p.number+1, len(frames(body))
+	p.number++
 	e := p.d.Remove(p.number - 1)
 	p.broken = e == api.ErrDead
 	return e
@@ -232,8 +238,12 @@ func (p *pair) hold(what string, got, want api.Errno) api.Errno {
 	if a, b := p.a.Image(), p.b.Image(); !slices.Equal(a, b) || p.a.Dead() != p.b.Dead() {
 		p.t.Fatalf("%s: the disk has %s, want %s", what, brief(a), brief(b))
 	}
-	if p.twin != nil && (p.log.Number() != p.twin.number || p.log.Size() != p.twin.size) {
-		p.t.Fatalf("%s: Number, Size = %d, %d, want %d, %d", what, p.log.Number(), p.log.Size(), p.twin.number, p.twin.size)
+	if p.twin == nil {
+		return got
+	}
+	number, size := p.twin.number, fileSize(p.b, p.twin.number)
+	if p.log.Number() != number || p.log.Size() != size {
+		p.t.Fatalf("%s: Number, Size = %d, %d, want %d, %d", what, p.log.Number(), p.log.Size(), number, size)
 	}
 	return got
 }
@@ -743,23 +753,24 @@ func TestErrorsInOrder(t *testing.T) {
 func TestBroken(t *testing.T) {
 	had := frames("h", "a")
 	breaks := []struct {
-		what         string
-		n            int
-		call         func(l *Log) api.Errno
-		number, size int
+		what   string
+		n      int
+		x      deed
+		number int
 	}{
-		{"Append's Append", 1, func(l *Log) api.Errno { return l.Append("b") }, 1, len(had)},
-		{"Append's Sync", 2, func(l *Log) api.Errno { return l.Append("b") }, 1, len(had)},
-		{"Turn's Append", 1, func(l *Log) api.Errno { return l.Turn("b") }, 1, len(had)},
-		{"Turn's Sync", 2, func(l *Log) api.Errno { return l.Turn("b") }, 1, len(had)},
-		{"Turn's Remove", 3, func(l *Log) api.Errno { return l.Turn("b") }, 2, len(frames("b"))},
+		{"Append's Append", 1, deed{false, "b"}, 1},
+		{"Append's Sync", 2, deed{false, "b"}, 1},
+		{"Turn's Append", 1, deed{true, "b"}, 1},
+		{"Turn's Sync", 2, deed{true, "b"}, 1},
+		{"Turn's Remove", 3, deed{true, "b"}, 2},
 	}
 	for _, b := range breaks {
 		for keep := range 14 {
+			size := sizeBehind(b.x, len(had), b.n, keep)
 			d := loaded(t, 1000, f(1, had))
 			l := opened(t, d, "x", "h", "a")
 			tells(t, d.Arm(b.n, same(keep)...), api.OK)
-			tells(t, b.call(l), api.ErrDead)
+			tells(t, b.x.do(l), api.ErrDead)
 			if keep%2 == 0 { // no call that would break the log anew stands ahead of the power
 				tells(t, d.Boot(), api.OK)
 			}
@@ -770,8 +781,8 @@ func TestBroken(t *testing.T) {
 					tells(t, l.Turn(body), api.ErrDead)
 				}
 				has(t, d, was...)
-				if l.Number() != b.number || l.Size() != b.size {
-					t.Errorf("%s: Number, Size = %d, %d", b.what, l.Number(), l.Size())
+				if l.Number() != b.number || l.Size() != size {
+					t.Errorf("%s: Number, Size = %d, %d, want %d, %d", b.what, l.Number(), l.Size(), b.number, size)
 				}
 				tells(t, d.Boot(), api.OK)
 			}
@@ -809,6 +820,7 @@ func TestFileOfTheLogIsGone(t *testing.T) {
 	d := loaded(t, 60)
 	l := opened(t, d, "x", "x")
 	tells(t, d.Remove(1), api.OK)
+	stands(t, l, 1, 0)
 	tells(t, l.Turn("a"), api.ErrFile)
 	stands(t, l, 2, 12)
 	tells(t, l.Append("b"), api.OK)
@@ -838,6 +850,98 @@ func TestNumberAndSize(t *testing.T) {
 	}
 	tells(t, d.Crash(), api.OK)
 	stands(t, l, number, len(frames(bodies...)))
+}
+
+// sizeBehind is how many bytes the log's file has once the power went at the n-th step of a deed, and so many of the bytes that were not synced stayed: those of a Turn stand in another file than the log's till they are synced.
+func sizeBehind(x deed, had, n, keep int) int {
+	laid := len(frames(x.body))
+	if !x.turn {
+		return had + min(max(keep, 0), laid)
+	}
+	if n == 3 {
+		return laid
+	}
+	return had
+}
+
+// TestSizeBehindAFall: P17.5, the power goes at each step of an Append and of a Turn, and each number of bytes stays: Size tells what the file has, also once the disk has power again, and once another log has cut the file.
+func TestSizeBehindAFall(t *testing.T) {
+	const number = 5
+	for _, bodies := range [][]string{{""}, {"h", "", "abc"}, {bytesOf(longest)}} {
+		had := frames(bodies...)
+		for _, body := range []string{"", "b", frames("a"), bytesOf(130)} {
+			for _, x := range []deed{{false, body}, {true, body}} {
+				steps := 2
+				if x.turn {
+					steps = 3
+				}
+				for n := 1; n <= steps; n++ {
+					now := number
+					if n == 3 {
+						now++
+					}
+					for keep := -1; keep <= len(frames(body))+1; keep++ {
+						d := loaded(t, big, f(number, had))
+						l := opened(t, d, "x", bodies...)
+						tells(t, d.Arm(n, same(keep)...), api.OK)
+						tells(t, x.do(l), api.ErrDead)
+						stands(t, l, now, sizeBehind(x, len(had), n, keep))
+						stands(t, l, now, fileSize(d, now))
+						tells(t, l.Append("more"), api.ErrDead)
+						tells(t, l.Turn("more"), api.ErrDead)
+						tells(t, d.Boot(), api.OK)
+						stands(t, l, now, sizeBehind(x, len(had), n, keep))
+						m, _, e := Open(d, "x")
+						tells(t, e, api.OK)
+						stands(t, m, m.Number(), fileSize(d, m.Number()))
+						stands(t, l, now, fileSize(d, now))
+					}
+				}
+			}
+		}
+	}
+}
+
+// TestSizeOfTheShortestLog: P17.5, a log of 11 bytes, an Append of 11 more, and what the file has behind each fall.
+func TestSizeOfTheShortestLog(t *testing.T) {
+	rows := []struct {
+		n    int
+		keep []int
+		size int
+	}{
+		{1, nil, 11}, {2, nil, 11}, {1, []int{-7}, 11}, {2, []int{0}, 11}, {1, []int{5}, 16}, {2, []int{5}, 16},
+		{1, []int{10}, 21}, {1, []int{11}, 22}, {2, []int{11}, 22}, {2, []int{12}, 22}, {1, []int{0, 11}, 11},
+	}
+	for _, row := range rows {
+		d := loaded(t, 22)
+		l := opened(t, d, "", "")
+		stands(t, l, 1, 11)
+		tells(t, d.Arm(row.n, row.keep...), api.OK)
+		tells(t, l.Append(""), api.ErrDead)
+		stands(t, l, 1, row.size)
+	}
+}
+
+// TestSizeOnASharedDisk: P17.5, bytes that come and go by other calls than the log's.
+func TestSizeOnASharedDisk(t *testing.T) {
+	data := frames("h", "a")
+	for synced := range len(data) + 1 {
+		d := loaded(t, 100, api.File{Number: 3, Data: data, Synced: synced})
+		l := opened(t, d, "x", "h", "a")
+		stands(t, l, 3, len(data))
+		tells(t, d.Crash(2), api.OK)
+		stands(t, l, 3, min(synced+2, len(data)))
+	}
+	d := loaded(t, 100, f(3, data))
+	l, m := opened(t, d, "x", "h", "a"), opened(t, d, "x", "h", "a")
+	tells(t, m.Append("b"), api.OK)
+	stands(t, l, 3, len(frames("h", "a", "b")))
+	tells(t, d.Cut(3, len(data)), api.OK)
+	stands(t, l, 3, len(data))
+	stands(t, m, 3, len(data))
+	tells(t, m.Turn("c"), api.OK)
+	stands(t, m, 4, len(frames("c")))
+	stands(t, l, 3, 0)
 }
 
 // images has disks of each kind that Open tells apart.
